@@ -1,0 +1,1 @@
+"""Figurefall: numbers that fall to the sum of what their figures are worth."""
