@@ -5,11 +5,14 @@ import random
 import unittest
 
 from figurefall import falls
+from figurefall.counts import counts_below, counts_one_by_one, many_of, spread_of
 from figurefall.errors import BadBase, BadNumber, BadWorth
 from figurefall.falls import fall_of
 from figurefall.figures import number_of
+from figurefall.leasts import least_of, sums_to
+from figurefall.places import number_at, place_of
 from figurefall.walks import bound_of, ring_of, rings_of, walk_of
-from plain import BASES, GREAT, PlainBook, great_numbers, many_books
+from plain import BASES, GREAT, PlainBook, great_numbers, plain_books
 
 # Every function that takes a row of worths, each asked of a number that is always good.
 ASKED_OF_A_BOOK = (
@@ -18,7 +21,16 @@ ASKED_OF_A_BOOK = (
     lambda worths: ring_of(worths, 1),
     bound_of,
     rings_of,
+    lambda worths: counts_below(worths, 1),
+    lambda worths: counts_one_by_one(worths, 1),
+    lambda worths: spread_of(worths, 1),
+    lambda worths: many_of(worths, 1, 1),
+    lambda worths: place_of(worths, 1),
+    lambda worths: sums_to(worths, 1),
+    lambda worths: least_of(worths, 1),
 )
+# No number is the least of a ring in every book, so this one can only be asked of bad rows.
+ASKED_OF_A_BAD_ROW = ASKED_OF_A_BOOK + (lambda worths: number_at(worths, 0, 0),)
 
 
 class Constants(unittest.TestCase):
@@ -35,7 +47,7 @@ class RowsOfWorths(unittest.TestCase):
                     self.assertEqual(ask(row), ask(tuple(row)))
 
     def test_no_other_length_is(self):
-        for ask in ASKED_OF_A_BOOK:
+        for ask in ASKED_OF_A_BAD_ROW:
             for length in (0, 1, 17, 18, 32, 1000):
                 with self.subTest(length=length):
                     self.assertRaises(BadBase, ask, [1] * length)
@@ -51,7 +63,7 @@ class RowsOfWorths(unittest.TestCase):
                         ask(row)
 
     def test_bad_worths_at_any_place(self):
-        for ask in ASKED_OF_A_BOOK:
+        for ask in ASKED_OF_A_BAD_ROW:
             for base in BASES:
                 for place in range(base):
                     for worth in (-GREAT, -50, -1, 51, 100, GREAT):
@@ -62,7 +74,7 @@ class RowsOfWorths(unittest.TestCase):
                             self.assertRaises(BadWorth, ask, tuple(row))
 
     def test_a_bad_base_comes_ahead_of_a_bad_worth(self):
-        for ask in ASKED_OF_A_BOOK:
+        for ask in ASKED_OF_A_BAD_ROW:
             for row in ([-1], [51], [GREAT], [-1] * 17, [51] * 17, [1] * 16 + [51]):
                 self.assertRaises(BadBase, ask, row)
 
@@ -87,8 +99,8 @@ class Falls(unittest.TestCase):
             self.assertEqual([fall_of(row, figure) for figure in range(base)], row)
 
     def test_many_books(self):
-        for row in many_books():
-            book = PlainBook(row)
+        for book in plain_books():
+            row = book.worths
             for number in list(range(0, 200)) + list(range(200, 5000, 97)):
                 with self.subTest(row=row, number=number):
                     self.assertEqual(fall_of(row, number), book.fall(number))

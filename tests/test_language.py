@@ -107,6 +107,54 @@ class Language(unittest.TestCase):
                 used = {node.id for node in ast.walk(tree) if isinstance(node, ast.Name)}
                 self.assertEqual({name for name in used if name in dir(builtins)} - PYTHONS_OWN, set())
 
+    def test_no_local_is_called_like_a_class_or_an_import(self):
+        for path in FILES:
+            tree = ast.parse(path.read_text(encoding="utf-8"))
+            drawn = {one.name for node in tree.body if isinstance(node, ast.ImportFrom) for one in node.names}
+            drawn |= {node.name for node in tree.body if isinstance(node, ast.ClassDef)}
+            names = [node for node in ast.walk(tree) if isinstance(node, ast.Name)]
+            stored = {node.id for node in names if isinstance(node.ctx, ast.Store)}
+            stored |= {node.arg for node in ast.walk(tree) if isinstance(node, ast.arg)}
+            with self.subTest(file=path.name):
+                self.assertEqual(drawn & stored, set())
+
+    def test_no_two_files_draw_from_one_another(self):
+        drawn = {}
+        for path in FILES:
+            nodes = ast.parse(path.read_text(encoding="utf-8")).body
+            drawn[path.stem] = {node.module.split(".")[1] for node in nodes if isinstance(node, ast.ImportFrom)}
+        while drawn:
+            free = [name for name, others in drawn.items() if not others & set(drawn)]
+            self.assertTrue(free, drawn)
+            for name in free:
+                del drawn[name]
+
+    def test_no_name_is_both_a_method_and_a_value(self):
+        methods = set()
+        values = set()
+        for name, node in walked():
+            if isinstance(node, ast.ClassDef):
+                methods |= {part.name for part in node.body if isinstance(part, ast.FunctionDef)}
+            if isinstance(node, ast.Attribute) and isinstance(node.ctx, ast.Store):
+                values.add(node.attr)
+        self.assertEqual(methods & values, set())
+        own = {name for kind in (str, int, list, dict, set, tuple, bytes) for name in dir(kind)}
+        self.assertEqual((methods | values) & own - {"__init__"}, set())
+
+    def test_what_is_walked_on_the_spot(self):
+        for path in FILES:
+            tree = ast.parse(path.read_text(encoding="utf-8"))
+            walked_here = {id(node.iter) for node in ast.walk(tree) if isinstance(node, (ast.For, ast.comprehension))}
+            calls = [node for node in ast.walk(tree) if isinstance(node, ast.Call)]
+            for node in calls:
+                if getattr(node.func, "id", None) in ("list", "sorted"):
+                    walked_here.update(id(part) for part in node.args[:1])
+            for node in calls:
+                called = getattr(node.func, "id", getattr(node.func, "attr", None))
+                if called in ("range", "zip", "enumerate", "reversed", "items", "keys", "values"):
+                    with self.subTest(file=path.name, line=node.lineno):
+                        self.assertIn(id(node), walked_here)
+
     def test_methods(self):
         own = {node.name for name, node in walked() if isinstance(node, ast.FunctionDef)}
         for name, node in walked():

@@ -5,7 +5,7 @@ import unittest
 from figurefall.errors import BadNumber
 from figurefall.falls import fall_of
 from figurefall.walks import bound_of, ring_of, rings_of, walk_of
-from plain import BASES, GREAT, PlainBook, great_numbers, many_books
+from plain import BASES, GREAT, PlainBook, great_numbers, many_books, plain_books
 
 SQUARES = [0, 1, 4, 9, 16, 25, 36, 49]
 SOME_NUMBERS = list(range(100)) + list(range(100, 600, 11)) + list(range(600, 6000, 301))
@@ -14,7 +14,7 @@ SOME_NUMBERS = list(range(100)) + list(range(100, 600, 11)) + list(range(600, 60
 class ManyBooks(unittest.TestCase):
     @classmethod
     def setUpClass(cls):
-        cls.books = [PlainBook(row) for row in many_books()]
+        cls.books = plain_books()
 
     def test_walks(self):
         for book in self.books:
